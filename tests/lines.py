@@ -1,0 +1,95 @@
+"""What the tests share: the calls as lists of numbers, and a test case that takes answers apart."""
+
+import unittest
+
+from washloads.laundry import answers
+
+MOST = 4294967295
+
+
+def start(price=10, bears=(5000,)):
+    return [0, price, len(bears), *bears]
+
+
+def order(due=100):
+    return [1, due]
+
+
+def add(o, w=1000, t="W40B2D2I3", need=0, colour=0, runs=0):
+    signs = [ord(sign) for sign in t] if isinstance(t, str) else list(t)
+    return [2, o, need, colour, runs, w, len(signs), *signs]
+
+
+def close(o):
+    return [3, o]
+
+
+def plan(k):
+    return [4, k]
+
+
+def run(k, j):
+    return [5, k, j]
+
+
+def tick(t):
+    return [6, t]
+
+
+def broken(k, on):
+    return [7, k, on]
+
+
+def pack(o):
+    return [8, o]
+
+
+def hand(o):
+    return [9, o]
+
+
+def cancel(o):
+    return [10, o]
+
+
+def bill(o):
+    return [11, o]
+
+
+def planned(loads, *pairs):
+    """What plan answers: how many loads, how many things, and each thing with its load."""
+    return [loads, len(pairs), *[number for pair in pairs for number in pair]]
+
+
+def told(*calls):
+    """The answers to a line, a list for each call."""
+    line = [number for call in calls for number in call]
+    given = answers(line)
+    apart = []
+    at = 0
+    while at < len(given):
+        apart.append(given[at + 1:at + 1 + given[at]])
+        at += 1 + given[at]
+    if at != len(given) or len(apart) != len(calls):
+        raise AssertionError(f"not an answer for each of {len(calls)} calls: {given}")
+    return apart
+
+
+def last(*calls):
+    return told(*calls)[-1]
+
+
+class LineCase(unittest.TestCase):
+    def tells(self, pairs):
+        """Each pair is a call and its answer, of one line."""
+        got = told(*[call for call, wanted in pairs])
+        for at, (call, wanted) in enumerate(pairs):
+            wanted = wanted if isinstance(wanted, list) else [wanted]
+            self.assertEqual(got[at], wanted, f"call {at}: {call}")
+
+    def refuses(self, before, call, refusal, behind=()):
+        """The call is refused, and whatever is asked behind it is answered as if it hadn't been."""
+        without = told(*before, *behind)
+        got = told(*before, call, *behind)
+        self.assertEqual(got[len(before)], [refusal], f"{call}")
+        self.assertEqual(got[:len(before)] + got[len(before) + 1:], without, f"behind {call}")

@@ -1,0 +1,1 @@
+"""A laundry: labelled things are brought, washed in machines, packed and given out."""
