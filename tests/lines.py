@@ -56,6 +56,75 @@ def bill(o):
     return [11, o]
 
 
+def where(i):
+    return [12, i]
+
+
+def label(i):
+    return [13, i]
+
+
+def thing(i):
+    return [14, i]
+
+
+def apart(*numbers):
+    return [15, len(numbers), *numbers]
+
+
+def waiting():
+    return [16]
+
+
+def machine(k):
+    return [17, k]
+
+
+def inside(k):
+    return [18, k]
+
+
+def state(o):
+    return [19, o]
+
+
+def late():
+    return [20]
+
+
+def next_done():
+    return [21]
+
+
+def till():
+    return [22]
+
+
+def all_there_is():
+    return [23]
+
+
+# Whatever can be asked, of the first few orders, things and machines.
+EVERYTHING = (*[ask(o) for ask in (state, bill) for o in range(3)],
+              *[ask(i) for ask in (where, label, thing) for i in range(5)],
+              *[ask(k) for ask in (machine, inside, plan) for k in range(3)],
+              apart(0, 1), apart(1, 0, 2), waiting(), late(), next_done(), till(), all_there_is())
+
+
+def every_label():
+    """Each right label in signs, and its five numbers."""
+    for heat in ("00", "30", "40", "60", "95"):
+        for gentle in range(1 if heat == "00" else 3):
+            for rest in range(3 * 3 * 4):
+                bleach, dry, iron = rest // 12, rest // 4 % 3, rest % 4
+                text = f"W{heat}{'_' * gentle}B{bleach}D{dry}I{iron}"
+                yield text, (int(heat), gentle, bleach, dry, iron)
+
+
+def flat(calls):
+    return [number for call in calls for number in call]
+
+
 def planned(loads, *pairs):
     """What plan answers: how many loads, how many things, and each thing with its load."""
     return [loads, len(pairs), *[number for pair in pairs for number in pair]]
@@ -63,16 +132,15 @@ def planned(loads, *pairs):
 
 def told(*calls):
     """The answers to a line, a list for each call."""
-    line = [number for call in calls for number in call]
-    given = answers(line)
-    apart = []
+    given = answers(flat(calls))
+    found = []
     at = 0
     while at < len(given):
-        apart.append(given[at + 1:at + 1 + given[at]])
+        found.append(given[at + 1:at + 1 + given[at]])
         at += 1 + given[at]
-    if at != len(given) or len(apart) != len(calls):
+    if at != len(given) or len(found) != len(calls):
         raise AssertionError(f"not an answer for each of {len(calls)} calls: {given}")
-    return apart
+    return found
 
 
 def last(*calls):
@@ -89,7 +157,8 @@ class LineCase(unittest.TestCase):
 
     def refuses(self, before, call, refusal, behind=()):
         """The call is refused, and whatever is asked behind it is answered as if it hadn't been."""
-        without = told(*before, *behind)
-        got = told(*before, call, *behind)
+        asked = (*EVERYTHING, *behind, *EVERYTHING)
+        without = told(*before, *asked)
+        got = told(*before, call, *asked)
         self.assertEqual(got[len(before)], [refusal], f"{call}")
         self.assertEqual(got[:len(before)] + got[len(before) + 1:], without, f"behind {call}")

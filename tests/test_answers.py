@@ -3,19 +3,21 @@
 import random
 import unittest
 
-from lines import MOST, add, bill, broken, cancel, close, hand, order, pack, plan, run, start, tick
+from chance import ASKING, chance_call
+from lines import EVERYTHING, add, all_there_is, apart, bill, broken, cancel, close, flat, hand, inside, label, late
+from lines import machine, next_done, order, pack, plan, run, start, state, thing, tick, till, told, waiting, where
 
 from washloads.house import House
 from washloads.laundry import answer, answers, read_call
 
 WHOLE = (start(10, [5000, 2000]), order(50), order(40), add(0), add(1, w=1500), close(0), close(1), plan(0), run(0, 0),
-         tick(65), broken(0, 1), pack(0), hand(0), cancel(1), bill(1))
+         tick(65), broken(0, 1), pack(0), hand(0), cancel(1), bill(1), order(90), add(2, colour=3, runs=1), close(2),
+         where(1), label(1), thing(2), apart(1, 0, 2), waiting(), run(1, 0), machine(1), inside(1), state(1), late(),
+         next_done(), till(), all_there_is())
 WHOLE_ANSWERS = [1, 0, 1, 0, 1, 1, 1, 0, 1, 1, 1, 0, 1, 0, 6, 1, 2, 1, 0, 0, 0, 5, 65, 30, 0, 2, 2, 1, 2, 1, 0, 1, 1,
-                 1, 100, 1, -17, 1, 150]
-
-
-def flat(calls):
-    return [number for call in calls for number in call]
+                 1, 100, 1, -17, 1, 150, 1, 2, 1, 2, 1, 0, 2, 2, 1, 10, 9, 87, 52, 48, 66, 50, 68, 50, 73, 51,
+                 4, 1000, 0, 3, 1, 2, 1, 2, 2, 1, 2, 5, 65, 30, 0, 2, 2, 6, 1, 130, 30, 0, 2, 2, 2, 1, 2,
+                 4, 1, 40, 1, 1, 2, 1, 1, 1, 130, 1, 100, 4, 65, 3, 3, 0]
 
 
 def picture(value):
@@ -27,29 +29,6 @@ def picture(value):
     return value
 
 
-def chance_label(chance):
-    heat = chance.choice(("00", "30", "40", "60", "95", "95", "60"))
-    gentle = "_" * chance.choice((0, 0, 1, 2, 2 if heat != "00" else 3))
-    return f"W{heat}{gentle}B{chance.randrange(3)}D{chance.randrange(3)}I{chance.choice((0, 1, 2, 3, 3, 4))}"
-
-
-def chance_call(chance, now):
-    few = chance.choice((0, 0, 0, 1, 1, 2, 3, 4, 60, MOST))
-    kind = chance.choice((1, 1, 2, 2, 2, 2, 2, 3, 3, 3, 4, 5, 5, 5, 5, 6, 6, 6, 7, 7, 8, 8, 9, 9, 10, 11))
-    if kind == 1:
-        return order(chance.choice((now, now + 1, now + 100, max(now - 1, 0), 1000000, 1000001)))
-    if kind == 2:
-        return add(few, chance.choice((0, 1, 900, 2000, 3000, 5001)), chance_label(chance),
-                   chance.choice((0, 0, 30, 40, 50, 60)), chance.choice((0, 0, 1, 2, 10)), chance.choice((0, 0, 0, 1, 2)))
-    if kind == 5:
-        return run(chance.choice((0, 1, 2)), chance.choice((0, 0, 0, 1, 2)))
-    if kind == 6:
-        return tick(chance.choice((now, now + 20, now + 45, now + 60, max(now - 1, 0))))
-    if kind == 7:
-        return broken(chance.choice((0, 1, 2)), chance.choice((0, 0, 1, 2)))
-    return [kind, few]
-
-
 class Answers(unittest.TestCase):
     def test_a_whole_line(self):
         self.assertEqual(answers(flat(WHOLE)), WHOLE_ANSWERS)
@@ -58,13 +37,20 @@ class Answers(unittest.TestCase):
         self.assertEqual(answers(start(1001)), [1, -22])
         self.assertEqual(answers(flat([start(), plan(0), plan(1), run(0, 0), run(1, 0)])),
                          [1, 0, 1, -6, 1, -2, 1, -6, 1, -2])
+        asked = [where(0), label(0), thing(0), apart(0), machine(1), inside(1), state(0), next_done()]
+        self.assertEqual(answers(flat([start(), *asked])),
+                         [1, 0, 1, -2, 1, -2, 1, -2, 1, -22, 1, -2, 1, -2, 1, -2, 1, -6])
 
     def test_rows_of_every_length(self):
         for many in range(11):
-            self.assertEqual(answers(flat([start(0, [1000] * many), start(0)])), [1, 0 if 1 <= many <= 4 else -22, 1, 0])
+            wanted = 0 if 1 <= many <= 4 else -22
+            self.assertEqual(answers(flat([start(0, [1000] * many), start(0)])), [1, wanted, 1, 0])
         for many in range(201):
             calls = [start(), order(), add(0, t=[95] * many), order()]
             self.assertEqual(answers(flat(calls)), [1, 0, 1, 0, 1, -71, 1, 1])
+        for many in range(31):
+            calls = [start(), order(), add(0), apart(*[0] * many), order()]
+            self.assertEqual(answers(flat(calls)), [1, 0, 1, 0, 1, 0, 1, -33 if 1 <= many <= 20 else -22, 1, 1])
 
     def test_five_hundred_calls(self):
         calls = [start()] + [order(), tick(0), bill(0), plan(0)] * 124 + [bill(59)] * 3
@@ -72,6 +58,12 @@ class Answers(unittest.TestCase):
         self.assertEqual(len(calls), 500)
         self.assertEqual(given[:10], [1, 0, 1, 0, 1, 0, 1, 0, 1, -6])
         self.assertEqual(len(given), 1000)
+
+    def test_five_hundred_calls_that_answer_much(self):
+        calls = [start(), order(), *[add(0, w=1)] * 150, close(0), *[waiting()] * 346, tick(0)]
+        given = answers(flat(calls))
+        self.assertEqual(len(calls), 500)
+        self.assertEqual(given[2 * 153:], [151, 150, *range(150)] * 346 + [1, 0])
 
     def test_what_is_handed_in_is_not_changed(self):
         line = flat(WHOLE)
@@ -100,17 +92,20 @@ class Answers(unittest.TestCase):
     def test_one_line_knows_nothing_of_another(self):
         self.assertEqual(answers(flat(WHOLE)), WHOLE_ANSWERS)
         # Nothing of the orders, the time or the broken machine is there.
-        other = flat([start(1, [1000]), bill(0), plan(0), broken(0, 0), order(0)])
-        self.assertEqual(answers(other), [1, 0, 1, -2, 1, -6, 1, -17, 1, 0])
+        other = flat([start(1, [1000]), bill(0), plan(0), broken(0, 0), where(0), machine(0), till(), all_there_is(),
+                      order(0)])
+        others = [1, 0, 1, -2, 1, -6, 1, -17, 1, -2, 1, 0, 1, 0, 4, 0, 0, 0, 0, 1, 0]
+        self.assertEqual(answers(other), others)
         self.assertEqual(answers(flat(WHOLE)), WHOLE_ANSWERS)
         # A line whose start was refused leaves nothing either.
         self.assertEqual(answers(start(1001)), [1, -22])
-        self.assertEqual(answers(other), [1, 0, 1, -2, 1, -6, 1, -17, 1, 0])
+        self.assertEqual(answers(other), others)
 
     def test_whole_numbers_in_a_list(self):
         given = answers(flat(WHOLE))
         self.assertIs(type(given), list)
         self.assertEqual({type(number) for number in given}, {int})
+        self.assertEqual({type(number) for call in told(*WHOLE, *EVERYTHING) for number in call}, {int})
 
 
 class Refusals(unittest.TestCase):
@@ -135,11 +130,15 @@ class Refusals(unittest.TestCase):
                     seen.add((call[0], found[0]))
         for pair in ((1, -22), (2, -2), (2, -16), (2, -71), (2, -22), (2, -33), (3, -2), (3, -16), (3, -6), (4, -2),
                      (4, -6), (5, -2), (5, -4), (5, -16), (5, -6), (5, -22), (6, -22), (7, -2), (7, -22), (7, -17),
-                     (8, -2), (8, -16), (8, -61), (9, -2), (9, -16), (10, -2), (10, -16), (10, -17), (11, -2)):
+                     (8, -2), (8, -16), (8, -61), (9, -2), (9, -16), (10, -2), (10, -16), (10, -17), (11, -2),
+                     (12, -2), (13, -2), (14, -2), (15, -22), (15, -33), (17, -2), (18, -2), (19, -2), (21, -6)):
             self.assertIn(pair, seen)
 
     def test_what_only_asks_changes_nothing(self):
-        for seed in range(30):
+        seen = set()
+        for seed in range(60):
             for call, found, before, behind in self.steps(seed):
-                if call[0] in (4, 11):
+                if call[0] in ASKING:
                     self.assertEqual(before, behind, call)
+                    seen.add(call[0])
+        self.assertEqual(seen, set(ASKING))

@@ -1,19 +1,10 @@
 """Labels in signs: what add takes for one, and what it tells of the washing."""
 
-from lines import LineCase, add, close, last, order, run, start
+from lines import LineCase, add, close, every_label, last, order, run, start
 
 from washloads.labels import read_label
 
 BEGIN = (start(), order())
-
-
-def every_label():
-    for heat in ("00", "30", "40", "60", "95"):
-        for gentle in range(1 if heat == "00" else 3):
-            for rest in range(3 * 3 * 4):
-                bleach, dry, iron = rest // 12, rest // 4 % 3, rest % 4
-                text = f"W{heat}{'_' * gentle}B{bleach}D{dry}I{iron}"
-                yield text, (int(heat), gentle, bleach, dry, iron)
 
 
 class RightLabels(LineCase):

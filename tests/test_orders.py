@@ -199,7 +199,8 @@ class Add(LineCase):
 
 class Close(LineCase):
     def test_closed(self):
-        self.tells([(start(), 0), (order(), 0), (add(0), 0), (plan(0), -6), (close(0), 0), (plan(0), planned(1, (0, 0)))])
+        self.tells([(start(), 0), (order(), 0), (add(0), 0), (plan(0), -6), (close(0), 0),
+                    (plan(0), planned(1, (0, 0)))])
 
     def test_it_alone_is_closed(self):
         self.tells([(start(), 0), (order(), 0), (order(), 1), (add(0), 0), (add(1), 1), (close(1), 0),

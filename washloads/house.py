@@ -1,7 +1,7 @@
 """What the laundry holds: machines, orders, things, and the time."""
 
 from washloads.loads import first_way
-from washloads.things import IN_MACHINE, UNWASHED, WASHED
+from washloads.things import GONE, IN_MACHINE, IN_PARCEL, UNWASHED, WASHED
 
 LAST_MINUTE = 1000000
 THINGS_IN_PLAN = 8
@@ -17,9 +17,14 @@ class Machine:
     def __init__(self, bears):
         self.bears = bears
         self.broken = 0
-        # The numbers of the things in it; it runs if there are any.
+        # The numbers of the things in it, in the order of the plan they were in.
         self.inside = []
+        # What it runs by, and until when; neither counts for anything where it's empty.
+        self.program = ()
         self.until = 0
+
+    def is_running(self):
+        return len(self.inside) > 0
 
 
 class Order:
@@ -34,6 +39,7 @@ class House:
 
     def begin(self, price, bears):
         self.price = price
+        self.till = 0
         self.now = 0
         self.machines = [Machine(grams) for grams in bears]
         self.orders = []
@@ -48,6 +54,15 @@ class House:
 
     def waits(self, thing):
         return thing.place == UNWASHED and self.orders[thing.order].state == CLOSED
+
+    # What becomes of a whole order is told by its state; a thing alone keeps how far it was washed.
+    def place_of(self, thing):
+        state = self.orders[thing.order].state
+        if state == PACKED:
+            return IN_PARCEL
+        if state in (GIVEN_OUT, CALLED_OFF):
+            return GONE
+        return thing.place
 
     def due_of(self, i):
         return self.orders[self.things[i].order].due
@@ -65,11 +80,12 @@ class House:
     def plan_of(self, numbers, machine):
         return first_way([self.things[i] for i in numbers], machine.bears)
 
-    def fill(self, machine, numbers, until):
+    def fill(self, machine, numbers, program, until):
         for i in numbers:
             thing = self.things[i]
             thing.place = IN_MACHINE
         machine.inside = numbers
+        machine.program = program
         machine.until = until
 
     # Answers how many things come out of the machine, to be in that place.
@@ -84,7 +100,7 @@ class House:
     def wash_what_is_over(self):
         washed = 0
         for machine in self.machines:
-            if len(machine.inside) > 0 and machine.until <= self.now:
+            if machine.is_running() and machine.until <= self.now:
                 washed = washed + self.take_out(machine, WASHED)
         return washed
 

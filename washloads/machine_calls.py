@@ -4,6 +4,11 @@ from washloads.house import LAST_MINUTE
 from washloads.refusals import ALREADY, IS_BROKEN, NOT_THERE, NOTHING_THERE, OUT_OF_RANGE, WRONG_STATE
 from washloads.things import UNWASHED, mildest_program, minutes_of
 
+# What a machine does.
+IS_EMPTY = 0
+IS_RUNNING = 1
+IS_OUT = 2
+
 
 def plan(house, numbers):
     k = numbers[0]
@@ -26,7 +31,7 @@ def run_refusal(house, k):
     machine = house.machines[k]
     if machine.broken == 1:
         return IS_BROKEN
-    if len(machine.inside) > 0:
+    if machine.is_running():
         return WRONG_STATE
     if len(house.waiting_for(machine)) == 0:
         return NOTHING_THERE
@@ -46,7 +51,7 @@ def run(house, numbers):
         return [OUT_OF_RANGE]
     program = mildest_program([house.things[i] for i in chosen])
     minutes = minutes_of(program)
-    house.fill(machine, chosen, house.now + minutes)
+    house.fill(machine, chosen, program, house.now + minutes)
     return [minutes] + list(program)
 
 
@@ -71,7 +76,38 @@ def broken(house, numbers):
     return [house.take_out(machine, UNWASHED)]
 
 
-MACHINE_CALLS = {4: plan, 5: run, 6: tick, 7: broken}
+def tell_machine(house, numbers):
+    k = numbers[0]
+    if k >= len(house.machines):
+        return [NOT_THERE]
+    machine = house.machines[k]
+    if machine.broken == 1:
+        return [IS_OUT]
+    if not machine.is_running():
+        return [IS_EMPTY]
+    return [IS_RUNNING, machine.until] + list(machine.program)
+
+
+def tell_inside(house, numbers):
+    k = numbers[0]
+    if k >= len(house.machines):
+        return [NOT_THERE]
+    inside = house.machines[k].inside
+    return [len(inside)] + inside
+
+
+def tell_next(house, numbers):
+    moments = [machine.until for machine in house.machines if machine.is_running()]
+    if len(moments) == 0:
+        return [NOTHING_THERE]
+    return [min(moments)]
+
+
+MACHINE_CALLS = {4: plan, 5: run, 6: tick, 7: broken, 17: tell_machine, 18: tell_inside, 21: tell_next}
+
+
+def is_machine_call(call):
+    return call in MACHINE_CALLS
 
 
 def answer_machine_call(house, call, numbers):

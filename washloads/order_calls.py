@@ -1,4 +1,4 @@
-"""The calls that begin anew, and those about orders: each is handed the house and its numbers."""
+"""The calls that begin anew, about orders, and about the whole: each is handed the house and its numbers."""
 
 from washloads.house import CALLED_OFF, CLOSED, GIVEN_OUT, LAST_MINUTE, PACKED, STILL_OPEN, Order
 from washloads.labels import read_label
@@ -100,7 +100,9 @@ def hand(house, numbers):
     if refusal < 0:
         return [refusal]
     house.set_state(o, GIVEN_OUT)
-    return [house.bill_of(o)]
+    paid = house.bill_of(o)
+    house.till = house.till + paid
+    return [paid]
 
 
 def cancel(house, numbers):
@@ -122,7 +124,34 @@ def bill(house, numbers):
     return [house.bill_of(o)]
 
 
-ORDER_CALLS = {0: start, 1: order, 2: add, 3: close, 8: pack, 9: hand, 10: cancel, 11: bill}
+def tell_state(house, numbers):
+    o = numbers[0]
+    if o >= len(house.orders):
+        return [NOT_THERE]
+    found = house.orders[o]
+    places = [house.place_of(thing) for thing in house.things_of(o)]
+    return [found.state, found.due, len(places), places.count(WASHED)]
+
+
+def is_late(found, now):
+    return found.state not in (GIVEN_OUT, CALLED_OFF) and found.due < now
+
+
+def tell_late(house, numbers):
+    late = [o for o, found in enumerate(house.orders) if is_late(found, house.now)]
+    return [len(late)] + late
+
+
+def tell_till(house, numbers):
+    return [house.till]
+
+
+def tell_all(house, numbers):
+    return [house.now, len(house.orders), len(house.things), len(house.waiting_things())]
+
+
+ORDER_CALLS = {0: start, 1: order, 2: add, 3: close, 8: pack, 9: hand, 10: cancel, 11: bill,
+               19: tell_state, 20: tell_late, 22: tell_till, 23: tell_all}
 
 
 def is_order_call(call):

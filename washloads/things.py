@@ -9,10 +9,13 @@ DRYING_MINUTES = 10
 MOST_COLOUR = 9
 MOST_WEIGHT = 20000
 
-# Where a thing is: in no machine and not washed yet, in a machine, or washed.
+# Where a thing is: in no machine and not washed yet, in a machine, washed, packed, or here no
+# more, as its order is given out or called off.
 UNWASHED = 0
 IN_MACHINE = 1
 WASHED = 2
+IN_PARCEL = 3
+GONE = 4
 
 
 class Thing:
